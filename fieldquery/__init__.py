@@ -1,0 +1,1 @@
+"""fieldquery: what nested selections of fields tell of all graphs."""

@@ -1,0 +1,78 @@
+"""The interface: its names stand in the files under which the document lists them."""
+
+import ast
+import importlib
+import inspect
+import pathlib
+import unittest
+
+PACKAGE = pathlib.Path(__file__).resolve().parent.parent / "fieldquery"
+
+FUNCTIONS = {
+    "schemas": {"field_key": ["field"]},
+    "printing": {"form_text": ["schema", "form"]},
+}
+CLASSES = {
+    "errors": {
+        "FieldError": {},
+        "SyntaxFault": {"__init__": ["self", "offset"]},
+        "CheckFault": {"__init__": ["self", "reason", "name"]},
+        "NoMatch": {"__init__": ["self", "index"]},
+        "BadSchema": {}, "TooLong": {}, "BadGraph": {}, "TooLarge": {},
+        "NotDetermined": {}, "Contradiction": {}, "StoreFull": {},
+    },
+    "schemas": {
+        "Schema": {
+            "__init__": ["self", "types"],
+            "field_of": ["self", "type_name", "name"],
+            "place_of": ["self", "type_names"],
+            "targets_of": ["self", "type_name", "name"],
+        },
+    },
+}
+
+
+def defined(module):
+    """The names that a file of the package defines itself, by def or by class."""
+    rows = ast.parse((PACKAGE / f"{module}.py").read_text()).body
+    functions = [row.name for row in rows if isinstance(row, ast.FunctionDef)]
+    classes = [row.name for row in rows if isinstance(row, ast.ClassDef)]
+    return functions, classes
+
+
+class TestInterface(unittest.TestCase):
+    def assert_parameters(self, function, names):
+        parameters = inspect.signature(function).parameters.values()
+        self.assertEqual([parameter.name for parameter in parameters], names)
+        for parameter in parameters:
+            self.assertEqual(parameter.kind, inspect.Parameter.POSITIONAL_OR_KEYWORD)
+            self.assertIs(parameter.default, inspect.Parameter.empty)
+
+    def test_functions(self):
+        for module, functions in FUNCTIONS.items():
+            for name, parameters in functions.items():
+                with self.subTest(f"{module}.{name}"):
+                    self.assertIn(name, defined(module)[0])
+                    function = getattr(importlib.import_module(f"fieldquery.{module}"), name)
+                    self.assert_parameters(function, parameters)
+
+    def test_classes(self):
+        for module, classes in CLASSES.items():
+            for name, methods in classes.items():
+                with self.subTest(f"{module}.{name}"):
+                    self.assertIn(name, defined(module)[1])
+                    own = vars(getattr(importlib.import_module(f"fieldquery.{module}"), name))
+                    for method, parameters in methods.items():
+                        self.assert_parameters(own[method], parameters)
+
+    def test_root_is_a_property(self):
+        schemas = importlib.import_module("fieldquery.schemas")
+        self.assertIsInstance(vars(schemas.Schema)["root"], property)
+
+    def test_attributes_are_set_when_the_object_is_created(self):
+        schemas = importlib.import_module("fieldquery.schemas")
+        self.assertLessEqual({"types", "names"}, set(vars(schemas.Schema((("T", ()),)))))
+
+
+if __name__ == "__main__":
+    unittest.main()
