@@ -11,6 +11,19 @@ PACKAGE = pathlib.Path(__file__).resolve().parent.parent / "fieldquery"
 FUNCTIONS = {
     "schemas": {"field_key": ["field"]},
     "printing": {"form_text": ["schema", "form"]},
+    "forms": {"normal_form": ["schema", "text"]},
+    "reading": {"read_query": ["text"]},
+    "fieldforms": {
+        "field_form": ["query"],
+        "union_of": ["schema", "forms"],
+        "common_of": ["first", "second"],
+        "contains": ["first", "second"],
+        "remainder_of": ["form", "other"],
+        "combine": ["schema", "queries"],
+        "common": ["first", "second"],
+        "remainder": ["queries", "query"],
+        "max_objects": ["query", "length"],
+    },
 }
 CLASSES = {
     "errors": {
@@ -29,6 +42,7 @@ CLASSES = {
             "targets_of": ["self", "type_name", "name"],
         },
     },
+    "queries": {"Query": {"__init__": ["self", "schema", "text"], "__eq__": ["self", "other"]}},
 }
 
 
@@ -71,7 +85,10 @@ class TestInterface(unittest.TestCase):
 
     def test_attributes_are_set_when_the_object_is_created(self):
         schemas = importlib.import_module("fieldquery.schemas")
-        self.assertLessEqual({"types", "names"}, set(vars(schemas.Schema((("T", ()),)))))
+        schema = schemas.Schema((("T", ()),))
+        self.assertLessEqual({"types", "names"}, set(vars(schema)))
+        queries = importlib.import_module("fieldquery.queries")
+        self.assertLessEqual({"schema", "form", "text"}, set(vars(queries.Query(schema, "{}"))))
 
 
 if __name__ == "__main__":
