@@ -13,7 +13,12 @@ def union_of(schema, forms):
     """The field form for the root type that has just what at least one of the forms has."""
     if len(forms) == 0:
         return {schema.root: {}}
-    return _united(forms)
+    return united(forms)
+
+
+def united(forms):
+    """The union of at least one field form, all of them for the same place."""
+    return {type_name: _united_row([form[type_name] for form in forms]) for type_name in forms[0]}
 
 
 def common_of(first, second):
@@ -71,11 +76,6 @@ def _row_without_keys(row):
     return _united_row(rows)
 
 
-def _united(forms):
-    """The union of at least one field form, all of them for the same place."""
-    return {type_name: _united_row([form[type_name] for form in forms]) for type_name in forms[0]}
-
-
 def _united_row(rows):
     groups = {}
     for row in rows:
@@ -88,7 +88,7 @@ def _united_entry(entries):
     field, below = entries[0]
     if below is None:
         return (field, None)
-    return (field, _united([entry[1] for entry in entries]))
+    return (field, united([entry[1] for entry in entries]))
 
 
 def _common_row(first, second):

@@ -1,5 +1,7 @@
-"""Schemas and ways to write forms that several test files use."""
+"""Schemas, queries, graphs and strange things that several test files use."""
 
+from fieldquery.errors import CheckFault
+from fieldquery.queries import Query
 from fieldquery.schemas import Schema
 
 USER = ("User", (("age", False, "int", ()), ("posts", False, "many", ("Post",))))
@@ -30,6 +32,19 @@ SIDES = (
 
 def example_schema():
     return Schema(EXAMPLE)
+
+
+def root(**values):
+    """An object of the example schema, as a response has it."""
+    return {"Type": "Query", **values}
+
+
+def user(**values):
+    return {"Type": "User", **values}
+
+
+def post(**values):
+    return {"Type": "Post", **values}
 
 
 def sides_schema():
@@ -120,3 +135,169 @@ def dicts_in(value):
         own = [value] if isinstance(value, list) else []
         return own + [found for below in value for found in dicts_in(below)]
     return []
+
+
+def some_queries(schema, numbers, many, most_entries=3):
+    """Queries without conflicts, not too long."""
+    queries = []
+    while len(queries) < many:
+        text = any_query(schema, numbers, most_entries)
+        try:
+            queries += [Query(schema, text)] if len(text) <= 400 else []
+        except CheckFault:
+            pass
+    return queries
+
+
+def keys_of(schema, type_name):
+    """Some field keys of the type, with their definitions."""
+    rows = dict(schema.types)[type_name]
+    return [(row[0] + number, row) for row in rows for number in (("0", "1", "42") if row[1] else ("",))]
+
+
+def any_graph(schema, numbers, size, most_elements=3):
+    """A graph with so many nodes, in which most fields have values."""
+    types = [schema.root] + [numbers.one_of(schema.names) for _ in range(size - 1)]
+    return tuple((name, any_values(schema, numbers, types, name, most_elements)) for name in types)
+
+
+def any_values(schema, numbers, types, type_name, most_elements):
+    values = {}
+    for key, (_, _, kind, targets) in keys_of(schema, type_name):
+        reached = [number for number, name in enumerate(types) if name in targets]
+        if numbers.below(5) == 0:
+            continue
+        if kind == "many":
+            length = numbers.below(most_elements + 1) if reached else 0
+            values[key] = tuple(numbers.one_of(reached) for _ in range(length))
+        elif numbers.below(5) == 0 or (kind == "one" and not reached):
+            values[key] = None
+        else:
+            values[key] = numbers.below(3) - 1 if kind == "int" else numbers.one_of(reached)
+    return values
+
+
+def plain_response(graph, query, number=0, form=None):
+    """The response of a graph of any size to a query, made without a look at any limit."""
+    type_name, values = graph[number]
+    form = query.form if form is None else form
+    response = {"Type": type_name}
+    for key, ((name, argument), below) in form[type_name].items():
+        value = values.get(name if argument is None else f"{name}{argument}")
+        if query.schema.field_of(type_name, name)[2] == "many":
+            response[key] = [plain_response(graph, query, told, below) for told in value or ()]
+        elif below is None or value is None:
+            response[key] = value
+        else:
+            response[key] = plain_response(graph, query, value, below)
+    return response
+
+
+def objects_of(response):
+    """The number of objects of a response, every occurrence counted."""
+    if isinstance(response, dict):
+        return 1 + sum(objects_of(value) for value in response.values())
+    return sum(objects_of(value) for value in response) if isinstance(response, list) else 0
+
+
+def chains_of(schema, form):
+    """All rows of entries that lead down in a normal form, by type and key, an entry ahead of what is below it.
+
+    A dict from tuples of triples (index of the type, type, key) to tuples of fields.
+    """
+    chains = {}
+    for name, row in form.items():
+        for key, (field, below) in row.items():
+            step = (schema.names.index(name), name, key)
+            chains[(step,)] = (field,)
+            for chain, fields in ({} if below is None else chains_of(schema, below)).items():
+                chains[(step, *chain)] = (field, *fields)
+    return {chain: chains[chain] for chain in sorted(chains)}
+
+
+class Refusal(Exception):
+    """What a hostile object raises, whatever is done with it."""
+
+
+def refuse(*_):
+    raise Refusal()
+
+
+REFUSED = {
+    name: refuse for name in (
+        "__eq__ __ne__ __lt__ __le__ __gt__ __ge__ __len__ __iter__ __bool__ __getitem__ __contains__ __repr__ __str__"
+        " __index__ __int__ __add__ __radd__ __sub__ __neg__ __getattr__ get items keys values rstrip startswith"
+    ).split()
+}
+# Objects of classes under those of Python, whose methods raise an error each.
+Hostile = type("Hostile", (), {**REFUSED, "__hash__": lambda self: 0})
+HostileTuple = type("HostileTuple", (tuple,), {**REFUSED, "__hash__": lambda self: 0})
+HostileList = type("HostileList", (list,), REFUSED)
+HostileDict = type("HostileDict", (dict,), REFUSED)
+HostileInteger = type("HostileInteger", (int,), {**REFUSED, "__hash__": lambda self: 0})
+
+
+class HostileText(str):
+    """A text with the same hash as an equal one, so that a look into a dict compares it."""
+
+    __hash__ = str.__hash__
+    __eq__ = refuse
+    __ne__ = refuse
+    __len__ = refuse
+    rstrip = refuse
+
+
+def deep_tuple(depth):
+    value = ()
+    for _ in range(depth):
+        value = (value,)
+    return value
+
+
+def strange_things():
+    """Values of all kinds that are neither graphs nor responses nor papers."""
+    own_list, own_dict = [], {"Type": "Query"}
+    own_list.append(own_list)
+    own_dict["feed"] = [own_dict]
+    own_dict["user7"] = own_dict
+    return [
+        None, True, False, 0, 1, -1, 10 ** 5000, -(10 ** 5000), 1.5, float("nan"), 1j, "", "same", "Type", "graph", b"same",
+        (), ((),), (((),),), [], [[]], {}, {"Type": None}, {1: 2}, {(): ()}, set(), frozenset(), object(), object, len,
+        range(3), iter(()), NotImplemented, ..., (None,), (None, None), (("Query",),), (("Query", {}, {}),),
+        deep_tuple(100000), own_list, own_dict, Hostile(), HostileTuple(), HostileTuple(("same",)), HostileList(),
+        HostileDict(), HostileInteger(0), HostileText("same"), HostileText("Query"), {Hostile(): 1},
+        {HostileText("Type"): "Query"}, ("Query", {Hostile(): 0}),
+    ]
+
+
+def facts_of(query, response):
+    """What a response that matches tells: pairs (path, mark), in which paths have field keys and indices."""
+    return [((), ("Type", query.schema.root))] + facts_below(query.schema, query.form, response, ())
+
+
+def facts_below(schema, form, response, path):
+    facts = []
+    for key, ((name, number), below) in form[response["Type"]].items():
+        step = (*path, name if number is None else f"{name}{number}")
+        facts += facts_at(schema, below, response[key], step)
+    return facts
+
+
+def facts_at(schema, below, value, path):
+    if isinstance(value, dict):
+        return [(path, ("Type", value["Type"]))] + facts_below(schema, below, value, path)
+    if isinstance(value, list):
+        elements = [fact for at, told in enumerate(value) for fact in facts_at(schema, below, told, (*path, at))]
+        return [(path, ("length", len(value)))] + elements
+    return [(path, value)]
+
+
+def are_unlike(facts):
+    """Whether facts tell unlike values at the same path."""
+    told = {}
+    return any(told.setdefault(path, mark) != mark for path, mark in facts)
+
+
+def known_paths(facts):
+    """The paths of all known objects."""
+    return {path for path, mark in facts if isinstance(mark, tuple) and mark[0] == "Type"}

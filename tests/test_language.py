@@ -113,6 +113,25 @@ class TestWhatIsUsed(unittest.TestCase):
         found += [(name, node.lineno) for name, node in nodes(ast.Constant) if isinstance(node.value, (float, complex))]
         self.assertEqual(found, [])
 
+    def test_kinds_are_only_compared(self):
+        for name, tree in trees():
+            asked = {id(node) for node in ast.walk(tree) if isinstance(node, ast.Name) and node.id == "type"}
+            for node in ast.walk(tree):
+                if isinstance(node, ast.Compare) and len(node.ops) == 1 and isinstance(node.ops[0], ast.Is):
+                    asked -= {id(side.func) for side in (node.left, *node.comparators) if isinstance(side, ast.Call)}
+            self.assertEqual(asked, set(), name)
+
+    def test_no_generators(self):
+        self.assertEqual(nodes(ast.GeneratorExp, ast.Yield, ast.YieldFrom), [])
+
+    def test_double_underscore_methods(self):
+        told = {node.name for _, node in nodes(ast.FunctionDef) if node.name.startswith("__")}
+        self.assertEqual(told, {"__init__", "__eq__", "__len__", "__iter__", "__enter__", "__exit__"})
+
+    def test_errors_that_are_caught_are_own_ones(self):
+        caught = {node.type.id for _, node in nodes(ast.ExceptHandler)}
+        self.assertEqual(caught, {"BadGraph", "Contradiction", "NoMatch"})
+
     def test_no_state_at_module_level(self):
         for name, tree in trees():
             told = [target.id for row in tree.body if isinstance(row, ast.Assign) for target in row.targets]
